@@ -1,0 +1,1 @@
+"""Stemsure: words of stems, affixes and compounds."""

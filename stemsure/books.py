@@ -25,13 +25,21 @@ def book_at(value, at):
     return plain(value)
 
 
+def entry_with(entries, stem):
+    """The entry with this stem, or None; what is passed as the stem may be any value."""
+    for entry in entries:
+        if entry[0] == stem:
+            return entry
+    return None
+
+
 def forms(value, stem):
     """The different forms of the entry with this stem, ascending."""
     affixes, entries, _ = book_at(value, 0)
-    for entry in entries:
-        if entry[0] == stem:
-            return tuple(sorted(parts_by_form(affixes, [entry]), key=word_order))
-    raise NoStem(stem)
+    entry = entry_with(entries, stem)
+    if entry is None:
+        raise NoStem(stem)
+    return tuple(sorted(parts_by_form(affixes, [entry]), key=word_order))
 
 
 def is_joined(word, joined):
@@ -43,14 +51,20 @@ def is_joined(word, joined):
     return any([word[start:] in joined for start in ends[1:]])
 
 
-def spells(value, word):
+def is_spelt(book, word):
     """Whether the word is one of the book."""
-    affixes, entries, forbidden = book_at(value, 0)
-    if not is_letters(word, 1, LONGEST_SPELT):
-        raise BadValue(1)
+    affixes, entries, forbidden = book
     if word in forbidden:
         return False
     return word in parts_alone(affixes, entries) or is_joined(word, parts_to_join(affixes, entries))
+
+
+def spells(value, word):
+    """Whether the word is one of the book that was passed."""
+    book = book_at(value, 0)
+    if not is_letters(word, 1, LONGEST_SPELT):
+        raise BadValue(1)
+    return is_spelt(book, word)
 
 
 def rest_counts(word, joined):

@@ -1,6 +1,13 @@
-"""The shapes of affixes, entries and forbidden words."""
+"""The shapes of affixes, entries and forbidden words, and of words that entries are to bear."""
 
 from stemsure.values import is_ascending, is_integer, is_letters, is_sequence, word_order
+
+MOST_AFFIXES = 6
+MOST_ENTRIES = 8
+MOST_FORBIDDEN = 5
+MOST_BORNE = 10
+LONGEST_STEM = 6
+LONGEST_FORBIDDEN = 8
 
 
 def is_affix(value):
@@ -17,7 +24,7 @@ def is_affix(value):
 
 def are_affixes(value):
     """Whether the value is a sequence of 0 to 6 different affixes."""
-    if not is_sequence(value) or len(value) > 6:
+    if not is_sequence(value) or len(value) > MOST_AFFIXES:
         return False
     if not all([is_affix(affix) for affix in value]):
         return False
@@ -31,14 +38,14 @@ def is_entry(value):
     if not is_sequence(value) or len(value) != 2:
         return False
     stem, flags = value
-    if not is_letters(stem, 1, 6) or not is_sequence(flags):
+    if not is_letters(stem, 1, LONGEST_STEM) or not is_sequence(flags):
         return False
     return all([is_integer(flag, 0, 9) for flag in flags]) and is_ascending(flags)
 
 
 def are_entries(value):
     """Whether the value is a sequence of 0 to 8 entries, ascending by different stems."""
-    if not is_sequence(value) or len(value) > 8:
+    if not is_sequence(value) or len(value) > MOST_ENTRIES:
         return False
     if not all([is_entry(entry) for entry in value]):
         return False
@@ -47,8 +54,17 @@ def are_entries(value):
 
 def are_forbidden(value):
     """Whether the value is a sequence of 0 to 5 different words of at most 8 letters, ascending."""
-    if not is_sequence(value) or len(value) > 5:
+    if not is_sequence(value) or len(value) > MOST_FORBIDDEN:
         return False
-    if not all([is_letters(word, 1, 8) for word in value]):
+    if not all([is_letters(word, 1, LONGEST_FORBIDDEN) for word in value]):
         return False
     return is_ascending([word_order(word) for word in value])
+
+
+def are_words(value):
+    """Whether the value is a sequence of 1 to 10 different words of at most 6 letters, in any order."""
+    if not is_sequence(value) or not 1 <= len(value) <= MOST_BORNE:
+        return False
+    if not all([is_letters(word, 1, LONGEST_STEM) for word in value]):
+        return False
+    return len(set(value)) == len(value)

@@ -1,4 +1,4 @@
-"""Kinds of values, and the order of words."""
+"""Kinds of values, the order of words, and the lines of a text."""
 
 LETTERS = "abcdef"
 
@@ -36,3 +36,11 @@ def plain(value):
     if is_sequence(value):
         return tuple([plain(part) for part in value])
     return value
+
+
+def lines_of(text):
+    """The lines of the text: what stands ahead of each line feed, and behind the last one, if that is not empty."""
+    lines = text.split("\n")
+    if lines[-1] == "":
+        lines.pop()
+    return lines

@@ -6,6 +6,9 @@ import unittest
 from stemsure.books import forms, is_book, spells, ways
 from stemsure.errors import BadValue
 from stemsure.machines import first_words, how_many, is_endless, machine, unlike
+from stemsure.nearby import near
+from stemsure.spellers import Speller
+from stemsure.texts import printed
 from tests import reference
 from tests.samples import ADDING, EMPTY, FULL, LARGEST, ONE, odd_values
 
@@ -214,7 +217,8 @@ class TestBadValueForBooks(unittest.TestCase):
             for second in ("ab", None, 3, 77):
                 for call in (forms, spells, ways, first_words, how_many):
                     self.raises_at(0, call, value, second)
-            for call in (machine, is_endless):
+                self.raises_at(0, near, value, second, second, second)
+            for call in (machine, is_endless, printed, Speller):
                 self.raises_at(0, call, value)
             self.raises_at(0, unlike, value, ONE)
             self.raises_at(1, unlike, ONE, value)

@@ -203,6 +203,43 @@ class TestLanguage(unittest.TestCase):
                         held = isinstance(node, ast.Call) and getattr(node.func, "id", "") in ("len", "sorted")
                         self.assertTrue(held or isinstance(node, ast.Compare), f"{name}:{child.lineno}")
 
+    def test_what_is_iterated_at_once_is_not_passed_on(self):
+        callers = {"list", "tuple", "dict", "sorted", "sum", "any", "all", "enumerate", "zip", "min", "max"}
+        for name, tree in self.trees():
+            right = set()
+            for node in ast.walk(tree):
+                if isinstance(node, (ast.For, ast.comprehension)):
+                    right.add(node.iter)
+                elif isinstance(node, ast.Call) and getattr(node.func, "id", "") in callers:
+                    right |= set(node.args)
+                elif isinstance(node, ast.Call) and ast.unparse(node.func) == "reversed":
+                    right |= {part for part in node.args if ast.unparse(part).startswith("range(")}
+                elif isinstance(node, ast.Compare):
+                    right |= {part for part in node.comparators if ast.unparse(part).startswith("range(")}
+            for node in ast.walk(tree):
+                if isinstance(node, ast.Call):
+                    called = getattr(node.func, "id", None) or node.func.attr
+                    if called in ("range", "zip", "enumerate", "reversed", "items", "keys", "values"):
+                        self.assertIn(node, right, f"{name}:{node.lineno}")
+
+    def test_parts_of_comprehensions_keep_their_names(self):
+        # A comprehension within another one, or beside others there, gives no new meaning to a name of theirs.
+        kinds = (ast.ListComp, ast.SetComp, ast.DictComp)
+        for at, node in self.nodes(*kinds):
+            outer = self.names_of(node)
+            for inner in ast.walk(node):
+                if isinstance(inner, kinds) and inner is not node:
+                    self.assertFalse(outer & self.names_of(inner), at)
+
+    def names_of(self, node):
+        return {part.id for clause in node.generators for part in ast.walk(clause.target) if isinstance(part, ast.Name)}
+
+    def test_equal_begins_with_the_class(self):
+        for at, node in self.nodes(ast.FunctionDef):
+            if node.name == "__eq__":
+                self.assertRegex(ast.unparse(node.body[0]), r"^return isinstance\(other, [A-Z][A-Za-z]*\) and ", at)
+                self.assertEqual(len(node.body), 1, at)
+
     def test_loops_do_not_change_what_they_go_over(self):
         changing = {"append", "clear", "extend", "insert", "pop", "remove", "reverse", "setdefault", "update"}
         for at, node in self.nodes(ast.For):

@@ -219,7 +219,8 @@ class TestArguments(unittest.TestCase):
         self.assertEqual(fewest(six, ("b",)), 1)
         wrong = [six + (("pre", 6, "", "a", "", True),), six + six[:1], six[0], (six,), (ADDING, list(ADDING)), ""]
         wrong += [(ADDING[:1] + (flag,) + ADDING[2:],) for flag in (-1, 8, 9, True, False, None, "0")]
-        wrong += [(ADDING[:5],), (ADDING + (True,),), (("suf", 0, "d", "d", "", True),), (("suf", 0, "", "d", "ba", 1),)]
+        wrong += [(ADDING[:5],), (ADDING + (True,),), (ADDING[:5] + (1,),)]
+        wrong += [(("suf", 0, "d", "d", "", True),), (("suf", 0, "", "d", "ba", True),)]
         for affixes in wrong + [value for value in odd_values() if value not in ([], ())]:
             self.raises_at(0, affixes, ("a",))
             self.raises_at(0, affixes, None)
@@ -228,7 +229,8 @@ class TestArguments(unittest.TestCase):
         ten = ("a", "b", "c", "d", "e", "f", "aa", "ab", "ac", "ad")
         self.assertEqual(fewest((), ten), 10)
         self.assertEqual(fewest((), ["ffffff"]), 1)
-        wrong = [(), [], ten + ("ae",), list(ten) + ["ae"], ("a", "a"), ["a", "b", "a"], ("aaaaaaa",), ("a", ""), ("g",)]
+        wrong = [(), [], ten + ("ae",), list(ten) + ["ae"], ("a", "a"), ["a", "b", "a"]]
+        wrong += [("aaaaaaa",), ("a", "aaaaaaa"), ("a", ""), ("g",)]
         wrong += ["a", "abc", "", ("a", "A"), ("a", None), ("a", 1), ("a", True), ("a", ["b"]), (("a",), ("b",)), 0, 1]
         wrong += [("a", "b "), ("a\n",), {"a": 1}, {"a"}]
         for words in wrong + odd_values():

@@ -138,7 +138,7 @@ class TestWrongLines(Checks):
         self.right(((("pre", 3, "ab", "cd", "abc", True),), (), ()), line)
         self.each_wrong(line, 0, ("", "Affix", "affixes", "-", "pre", "affix pre", "entry", "forbid"))
         self.each_wrong(line, 1, ("", "-", "Pre", "prefix", "pr", "yes", "pre suf", "p"))
-        self.each_wrong(line, 2, ("", "-", "8", "9", "10", "-1", "00", "03", "3.0", "a", "True", "+3", "33", "3 3", "01"))
+        self.each_wrong(line, 2, ("", "-", "8", "9", "10", "-1", "00", "03", "3.0", "a", "True", "+3", "33", "3 3"))
         self.each_wrong(line, 3, ("", "--", "abc", "g", "A", "cd", "a b", "ab-", "0", "''", '""'))
         self.each_wrong(line, 4, ("", "--", "abc", "g", "A", "ab", "a b", "-a", "0", "''", '""'))
         self.each_wrong(line, 5, ("", "--", "ba", "aa", "abb", "abcdefg", "aabcdef", "g", "A", "a b", "0", "''"))
